@@ -2,7 +2,7 @@
 
 import unittest
 
-from helper import LARGEST, Dice, act, asked, begins, best, last, plain_best, worth
+from helper import LARGEST, act, asked, begins, best, counting_acts, last, worth
 
 
 class WhatMayBeSpent(unittest.TestCase):
@@ -124,11 +124,6 @@ class TheNeatest(unittest.TestCase):
         self.assertEqual(rows[-1], [3, 1, 1])
 
 
-def counting_acts(cost):
-    """Acts that count upward: together they go through all states of six facts, one by one."""
-    return [act((1 << k) - 1, 1 << k, 1 << k, (1 << k) - 1, cost) for k in range(6)]
-
-
 class ManyActs(unittest.TestCase):
 
     def test_counting_through_all_states(self):
@@ -154,42 +149,3 @@ class ManyActs(unittest.TestCase):
         acts = [act(0, 1 << k, 1 << k, 0, 1) for k in range(5)] + [act(1 << k, 0, 0, 1 << k, 1) for k in range(5)]
         rows = asked(begins(6, 0), *acts, worth(31, 1000), *[best(LARGEST)] * 10)
         self.assertEqual(rows[-10:], [[1000, 5, 0, 1, 2, 3, 4]] * 10)
-
-
-class ComparedWithAPlainSearch(unittest.TestCase):
-
-    def compare(self, dice, facts, act_count, most_cost, sums):
-        sets = 1 << facts
-        first = dice.below(sets)
-        acts = []
-        for number in range(act_count):
-            needs, bars = dice.below(sets) & dice.below(sets), dice.below(sets) & dice.below(sets)
-            acts.append((needs, bars & ~needs, dice.below(sets), dice.below(sets), 1 + dice.below(most_cost)))
-        worths = [(dice.below(sets), 1 + dice.below(3)) for number in range(dice.below(5))]
-        calls = [begins(facts, first)] + [act(*parts) for parts in acts] + [worth(*pair) for pair in worths]
-        rows = asked(*calls, *[best(spent) for spent in sums])
-        for spent, row in zip(sums, rows[len(calls):]):
-            with self.subTest(first=first, acts=acts, worths=worths, spent=spent):
-                self.assertEqual(row, plain_best(first, acts, worths, spent))
-
-    def test_few_facts(self):
-        dice = Dice(1)
-        for number in range(300):
-            self.compare(dice, 1 + dice.below(3), dice.below(5), 3, (0, 1, 2, 3, 4, 5))
-
-    def test_many_facts(self):
-        dice = Dice(2)
-        for number in range(200):
-            self.compare(dice, 4 + dice.below(3), 1 + dice.below(5), 2, (0, 2, 4, 5))
-
-    def test_acts_that_bring_one_fact(self):
-        dice = Dice(3)
-        for number in range(100):
-            facts = 4
-            first = 0
-            acts = [(0, 0, 1 << dice.below(facts), 0, 1 + dice.below(3)) for k in range(5)]
-            worths = [(dice.below(16), 1 + dice.below(2)) for k in range(6)]
-            calls = [begins(facts, first)] + [act(*parts) for parts in acts] + [worth(*pair) for pair in worths]
-            for spent in (3, 5, 6):
-                with self.subTest(acts=acts, worths=worths, spent=spent):
-                    self.assertEqual(last(*calls, best(spent)), plain_best(first, acts, worths, spent))

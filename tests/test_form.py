@@ -2,15 +2,21 @@
 
 import ast
 import pathlib
+import re
 import unittest
 
 PACKAGE = pathlib.Path(__file__).resolve().parent.parent / "worthmost"
 ALLOWED = (
     "len range enumerate zip min max sum abs sorted reversed int str bool list tuple dict set isinstance "
-    "ord repr any all divmod ValueError"
+    "ord repr any all divmod"
 ).split()
+METHODS = (
+    "append clear copy count endswith extend find get index insert items join keys lower pop remove replace reverse "
+    "setdefault split strip update upper values bit_length"
+).split()
+WORDS = "type typing enum Enum Flag Generic Protocol ABC namedtuple dataclass overload contextmanager".split()
 STATEMENTS = (
-    ast.Assign, ast.If, ast.While, ast.For, ast.Return, ast.Break, ast.Continue, ast.Pass, ast.Raise,
+    ast.Assign, ast.If, ast.While, ast.For, ast.Return, ast.Break, ast.Continue, ast.Pass,
     ast.Expr, ast.FunctionDef, ast.ClassDef,
 )
 
@@ -50,6 +56,18 @@ class Form(unittest.TestCase):
                     self.assertIsInstance(node, STATEMENTS)
                 if isinstance(node, ast.Assign):
                     self.assertEqual(len(node.targets), 1)
+
+    def test_only_own_methods_and_those_that_are_allowed(self):
+        for path in files():
+            own = {node.name for node in nodes(path) if isinstance(node, ast.FunctionDef)}
+            called = [node.func for node in nodes(path) if isinstance(node, ast.Call)]
+            used = {func.attr for func in called if isinstance(func, ast.Attribute)}
+            self.assertEqual(used - own - set(METHODS), set())
+
+    def test_words_that_stand_nowhere(self):
+        for path in files():
+            words = set(re.findall("[A-Za-z_]+", path.read_text(encoding="utf-8")))
+            self.assertEqual(words & set(WORDS), set())
 
     def test_only_own_names_and_those_that_are_allowed(self):
         for path in files():

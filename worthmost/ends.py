@@ -1,22 +1,24 @@
-"""The calls on one house, and what they answer: which end is worth most for so much."""
+"""The calls on one house, and what they answer: which ends are worth most, cost least or leave most."""
 
 BEGINS = 0
 ACT = 1
 WORTH = 2
 START = 3
 BEST = 4
+LEAST = 5
+NET = 6
+FRONT = 7
+DROP = 8
 
 WRONG = -1
+NOT_THERE = -2
+NEVER_SO_MUCH = -6
 FULL = -7
 
 MOST_FACTS = 6
 MOST_ACTS = 10
 MOST_WORTHS = 8
 MOST_PRICE = 1000
-
-
-class UnknownCall(ValueError):
-    """A call's number that nothing here answers."""
 
 
 class Act:
@@ -78,12 +80,47 @@ class House:
         return [0]
 
     def best(self, spent):
-        ends = cheapest_ends(self.first_state, self.acts)
-        # The worth is turned below 0, so that the lowest pair is worth most, then has the better end.
-        pairs = [(-self.worth_of(state), end) for state, end in ends.items() if end[0] <= spent]
-        chosen = min(pairs)
+        # The worth is turned below 0, so that the lowest is worth most, then has the better end.
+        ranked = [(-much, end) for much, end in self.valued_ends() if end[0] <= spent]
+        chosen = min(ranked)
         end = chosen[1]
         return [-chosen[0], end[0]] + list(end[2])
+
+    def least(self, much):
+        # The end ranks ahead of its worth: of as cheap ends the neatest is told, even if another is worth more.
+        ranked = [(end, had) for had, end in self.valued_ends() if had >= much]
+        if len(ranked) == 0:
+            return [NEVER_SO_MUCH]
+        chosen = min(ranked)
+        end = chosen[0]
+        return [end[0], chosen[1]] + list(end[2])
+
+    def net(self):
+        # What is left is turned below 0, so that of the lowest most is left, then it has the better end.
+        ranked = [(end[0] - much, end, much) for much, end in self.valued_ends()]
+        chosen = min(ranked)
+        end = chosen[1]
+        return [0, chosen[2], end[0]] + list(end[2])
+
+    def front(self):
+        pairs = front_of([(end[0], much) for much, end in self.valued_ends()])
+        answer = [len(pairs)]
+        for cost, much in pairs:
+            answer.append(cost)
+            answer.append(much)
+        return answer
+
+    def drop(self, which):
+        if which >= len(self.worths):
+            return [NOT_THERE]
+        self.worths.pop(which)
+        return [len(self.worths)]
+
+    def valued_ends(self):
+        """List what each state that can be reached is worth, with the best end that leads there."""
+        # Every other end there costs more or is less neat for the same worth, so no call ever tells it.
+        ends = cheapest_ends(self.first_state, self.acts)
+        return [(self.worth_of(state), end) for state, end in ends.items()]
 
     def worth_of(self, state):
         return sum([much for facts, much in self.worths if has_all(state, facts)])
@@ -143,6 +180,16 @@ def ends_one_longer(state, end, acts):
     return longer
 
 
+def front_of(pairs):
+    """Keep the pairs of cost and worth that no other pair beats, rising, each once."""
+    kept = []
+    # At one cost what's worth most comes first, so a pair stays only if it is worth more than all before it.
+    for cost, much in sorted(pairs, key=lambda pair: (pair[0], -pair[1])):
+        if len(kept) == 0 or much > kept[-1][1]:
+            kept.append((cost, much))
+    return kept
+
+
 def call_length(calls, place):
     """Tell how many numbers the call at this place has, its own number among them."""
     kind = calls[place]
@@ -150,9 +197,9 @@ def call_length(calls, place):
         return 2 + calls[place + 1]
     if kind == BEGINS or kind == WORTH:
         return 3
-    if kind == START or kind == BEST:
-        return 2
-    raise UnknownCall(f"no call has the number {kind}")
+    if kind == NET or kind == FRONT:
+        return 1
+    return 2
 
 
 def answer_of(house, call):
@@ -165,7 +212,15 @@ def answer_of(house, call):
         return house.worth(call[1], call[2])
     if kind == START:
         return house.start(call[1])
-    return house.best(call[1])
+    if kind == BEST:
+        return house.best(call[1])
+    if kind == LEAST:
+        return house.least(call[1])
+    if kind == NET:
+        return house.net()
+    if kind == FRONT:
+        return house.front()
+    return house.drop(call[1])
 
 
 def answers(calls):
